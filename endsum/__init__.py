@@ -1,0 +1,1 @@
+"""Endsum: drawings of joined ends, counted with their turns."""
