@@ -74,9 +74,8 @@ def _is_join(stock, row):
         return False
     if not is_number(row[0]) or not is_number(row[2]):
         return False
-    if not is_name(row[1]) or not is_name(row[3]):
-        return False
-    return row[:2] <= row[2:] and (row[1], row[3]) in stock.sorts
+    # Only once the sorts are known to be texts can the ends be compared.
+    return (row[1], row[3]) in stock.sorts and row[:2] <= row[2:]
 
 
 def all_ends(stock, corners, legs):

@@ -2,34 +2,56 @@
 
 from endsum.drawings import renamed
 from endsum.errors import NoMatch
+from endsum.webs import Web, completed, movers
+
+# What is sure of a join is one number: its first corner, that end's sort, and
+# the other end's place, of which there are at most twelve.
+PLACES = 16
+ROWS = 64
 
 
 def alike(one, other):
     """A renaming by which one becomes other, or None."""
     if one.stock != other.stock:
         raise NoMatch("the stocks are not equal")
-    there = _leads(one)[0]
-    back = _leads(other)[0]
-    if renamed(one, there) != renamed(other, back):
+    many = len(one.corners)
+    if many != len(other.corners) or one.legs != other.legs:
         return None
-    return _one_by_one(there, _turned_back(back))
+    if _of_legs(one.joins, many) != _of_legs(other.joins, many):
+        return None
+    return completed(Web(one), Web(other), tuple(range(many)), ())
+
+
+def _of_legs(joins, many):
+    """The joins of two legs, which no renaming moves."""
+    return [join for join in joins if join[0] >= many]
 
 
 def least(drawing):
     """Of all renamed drawings the one with the least corners, then the least joins."""
-    return renamed(drawing, _leads(drawing)[0])
+    order = _least_order(drawing)
+    return renamed(drawing, tuple([order.index(at) for at in range(len(order))]))
 
 
 def keepers(drawing):
     """The sorted list of all renamings by which the drawing stays equal."""
-    leads = _leads(drawing)
-    back = _turned_back(leads[0])
-    return sorted([_one_by_one(lead, back) for lead in leads])
+    web = Web(drawing)
+    order = tuple(range(len(drawing.corners)))
+    found = [order]
+    for at in reversed(order):
+        # Those found so far leave at, and all before it, where they are.
+        found = [tuple([mover[number] for number in numbers])
+                 for mover in movers(web, order, at) for numbers in found]
+    return sorted(found)
 
 
 def turns(drawing):
     """How many ways there are to change corners and ends about so that it stays."""
-    total = len(keepers(drawing))
+    web = Web(drawing)
+    order = tuple(range(len(drawing.corners)))
+    total = 1
+    for at in order:
+        total = total * len(movers(web, order, at))
     stood = {}
     for join in drawing.joins:
         stood[join] = stood.get(join, 0) + 1
@@ -39,71 +61,80 @@ def turns(drawing):
     return total
 
 
-def _turned_back(numbers):
-    """The renaming that undoes this one."""
-    return tuple([numbers.index(at) for at in range(len(numbers))])
+def _least_order(drawing):
+    """The corners that get the numbers 0, 1, .. in the least drawing.
 
-
-def _one_by_one(first, second):
-    """The renaming that is first and then second."""
-    return tuple([second[number] for number in first])
-
-
-def _leads(drawing):
-    """All renamings by which the drawing becomes its least one.
-
-    An order tells the corners that get the numbers 0, 1, .. so far. What is
-    sure of the joins by then decides: an order whose start is greater than
-    another one's can't lead to the least drawing any more.
+    An order tells the corners that get the first numbers. What is sure of the
+    joins by then decides: an order whose start is greater than another one's
+    can't lead to the least drawing any more.
     """
+    web = Web(drawing)
     links = _links(drawing)
     orders = [()]
+    # All orders that are left have the same joins of the numbers below this one.
+    first = 0
     for kind in sorted(drawing.corners):
         fit = [at for at, corner in enumerate(drawing.corners) if corner == kind]
         orders = [(*order, at) for order in orders for at in fit if at not in order]
-        starts = [_start(links, order) for order in orders]
-        low = min(starts)
-        orders = [order for order, start in zip(orders, starts) if start == low]
-    return [_turned_back(order) for order in orders]
+        if len(orders) > 1:
+            starts = [_start(links, order, first) for order in orders]
+            low = min(starts)
+            orders = [order for order, start in zip(orders, starts) if start == low]
+            orders = _unlike(web, orders)
+            first = low[-1] // ROWS
+    return orders[0]
+
+
+def _unlike(web, orders):
+    """These orders without those to which a keeper leads from an earlier one.
+
+    Two orders that such a keeper leads to one another differ in their last
+    corner only: else their beginnings would have met here before.
+    """
+    if len(orders) == 1:
+        return orders
+    unlike = []
+    met = {}
+    for order in orders:
+        if order not in met:
+            unlike.append(order)
+            others = [at for at in range(len(web.rows)) if at not in order]
+            for images in movers(web, (*order, *others), len(order) - 1):
+                met[images[:len(order)]] = True
+    return unlike
 
 
 def _links(drawing):
-    """For each corner all (sort, place, sort) from an end of it to the joined end."""
+    """For each corner all (sort, place) from an end of it to the joined end, sorts as numbers."""
     many = len(drawing.corners)
+    names = sorted([sort for sort, partner in drawing.stock.sorts])
+    worths = {sort: PLACES * at for at, sort in enumerate(names)}
     links = [[] for corner in drawing.corners]
     for at, sort, to, partner in drawing.joins:
         if at < many:
-            links[at].append((sort, to, partner))
-        if at < to < many:
-            links[to].append((partner, at, sort))
+            links[at].append((worths[sort], to))
+            if at < to < many:
+                links[to].append((worths[partner], at))
     return links
 
 
-def _start(links, order):
-    """The sorted joins of numbered corners, up to the first that is not yet sure."""
-    numbers = {at: number for number, at in enumerate(order)}
+def _start(links, order, first):
+    """The joins of numbered corners, from a number on up to the first that is not yet sure.
+
+    One to a corner without a number has the next number as its place: it
+    comes behind the joins to numbered corners, and ahead of those to legs,
+    whose places are told as one more than they are.
+    """
+    following = len(order)
+    numbers = [following] * len(links) + list(range(len(links) + 1, PLACES))
+    for number, at in enumerate(order):
+        numbers[at] = number
     sure = []
-    for at in order:
-        for row in _rows(links, numbers, at):
-            sure.append(row)
-            if len(row) == 3:
+    for number in range(first, following):
+        row = ROWS * number
+        joins = [row + sort + numbers[to] for sort, to in links[order[number]] if numbers[to] >= number]
+        for join in sorted(joins):
+            sure.append(join)
+            if join % PLACES == following:
                 return sure
     return sure
-
-
-def _rows(links, numbers, at):
-    """The joins that begin at a numbered corner, sorted.
-
-    One to a corner without a number has three things only: it comes behind
-    the joins to numbered corners, and ahead of those to legs.
-    """
-    number = numbers[at]
-    rows = []
-    for sort, to, partner in links[at]:
-        if to >= len(links):
-            rows.append((number, sort, to, partner))
-        elif to not in numbers:
-            rows.append((number, sort, len(numbers)))
-        elif numbers[to] >= number:
-            rows.append((number, sort, numbers[to], partner))
-    return sorted(rows)

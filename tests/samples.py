@@ -102,3 +102,37 @@ def renamed_plainly(drawing, numbers):
 def all_renamings(drawing):
     """All renamings of a drawing, sorted."""
     return list(permutations(range(len(drawing.corners))))
+
+
+def every_kind_of_stock():
+    """Stocks, with corners and legs of at most eight ends, that differ in all that may matter."""
+    two = Stock([("b", "b"), ("a", "a")], [("l", ("a", "b")), ("k", ("a", "a", "b"))])
+    return [
+        (loose(2), [], []),
+        (loose(1), [], [("x", "a"), ("y", "a")]),
+        (loose(1), [], [("w", "a"), ("x", "a"), ("y", "a"), ("z", "a")]),
+        (loose(3), ["k"], []),
+        (loose(3), ["k"], [("x", "a")]),
+        (loose(4), ["k", "k"], []),
+        (loose(2), ["k"] * 4, []),
+        (loose(2), ["k"] * 3, [("x", "a"), ("y", "a")]),
+        (loose(1, 2), ["l", "k", "l", "k"], [("x", "a"), ("y", "a")]),
+        (loose(3, 1), ["l", "k", "k", "l"], []),
+        (loose(1), ["k"] * 6, [("x", "a"), ("y", "a")]),
+        (loose(1), ["k"] * 3, [("w", "a"), ("x", "a"), ("y", "a"), ("z", "a"), ("zz", "a")]),
+        (two, ["k", "l", "l"], [("x", "b")]),
+        (two, ["l", "k", "k"], []),
+        (paired(), ["k"] * 4, []),
+        (paired(), ["k", "l"], [("p", "out")]),
+        (paired(), ["l", "k"], [("p", "in")]),
+        (paired(), [], [("p", "in"), ("q", "out")]),
+        (paired(), ["k", "k"], [("p", "in"), ("q", "out")]),
+        (mixed(), ["k", "l", "m"], [("p", "out")]),
+        (mixed(), ["m", "m"], [("p", "out"), ("q", "out")]),
+        (mixed(), ["l"] * 2, [("p", "in"), ("q", "out"), ("r", "z"), ("s", "z")]),
+    ]
+
+
+def told(value):
+    """A fraction as it is to be told."""
+    return (value.numerator, value.denominator)

@@ -16,6 +16,14 @@ INTERFACE = {
     "stocks": ["Stock"],
     "drawings": ["Drawing", "renamed", "beside"],
     "likeness": ["alike", "least", "keepers", "turns"],
+    "pairings": ["count", "pairings", "drawing_of", "group"],
+    "lists": ["drawings", "sum_all"],
+    "parts": ["parts", "is_whole", "cuts", "is_free", "pieces", "cut", "join_legs"],
+    "series": ["all_sums", "whole_sums", "free_sums"],
+}
+LIBRARY = {
+    "math": ["gcd", "lcm", "isqrt", "comb", "perm", "factorial"],
+    "itertools": ["product", "combinations", "permutations"],
 }
 BUILTINS = set("""len range enumerate zip min max sum abs sorted reversed int str bool list tuple
     dict set isinstance ord repr any all divmod map iter next super ValueError KeyError""".split())
@@ -52,6 +60,13 @@ def bound_names(node):
     if isinstance(node, ast.Name) and isinstance(node.ctx, ast.Store):
         return [node.id]
     return []
+
+
+def is_set(node):
+    """Whether a node makes a set."""
+    if isinstance(node, ast.Call) and isinstance(node.func, ast.Name):
+        return node.func.id == "set"
+    return isinstance(node, (ast.Set, ast.SetComp))
 
 
 class Files(unittest.TestCase):
@@ -91,10 +106,40 @@ class Interface(unittest.TestCase):
             self.assertNotIsInstance(node, ast.Import, where)
             if isinstance(node, ast.ImportFrom):
                 folder, _, name = node.module.partition(".")
-                self.assertEqual((folder, node.level), ("endsum", 0), where)
+                self.assertTrue(folder == "endsum" or node.module in LIBRARY, where)
+                self.assertEqual(node.level, 0, where)
                 for alias in node.names:
-                    self.assertIn(alias.name, defined[name], where)
+                    self.assertIn(alias.name, LIBRARY.get(node.module) or defined[name], where)
                     self.assertIsNone(alias.asname, where)
+
+    def test_no_file_leads_back_to_itself(self):
+        needs = {name: [node.module.partition(".")[2] for node in tree.body
+                        if isinstance(node, ast.ImportFrom) and node.module not in LIBRARY]
+                 for name, tree in trees()}
+        while needs:
+            free = [name for name in needs if not needs[name]]
+            self.assertTrue(free, needs)
+            needs = {name: [other for other in needs[name] if other not in free]
+                     for name in needs if name not in free}
+
+    def test_library_functions_are_only_called(self):
+        for name, tree in trees():
+            words = [alias.name for node in tree.body if isinstance(node, ast.ImportFrom)
+                     and node.module in LIBRARY for alias in node.names]
+            called = [node.func for node in ast.walk(tree) if isinstance(node, ast.Call)]
+            for node in ast.walk(tree):
+                if isinstance(node, ast.Name) and node.id in words:
+                    self.assertIn(node, called, f"{name}.py:{node.lineno}")
+
+    def test_names_of_classes_and_imports_mean_nothing_else(self):
+        for name, tree in trees():
+            words = [alias.name for node in tree.body if isinstance(node, ast.ImportFrom)
+                     for alias in node.names]
+            words += [node.name for node in tree.body if isinstance(node, ast.ClassDef)]
+            for node in ast.walk(tree):
+                if not isinstance(node, ast.ClassDef):
+                    for one in bound_names(node):
+                        self.assertNotIn(one, words, f"{name}.py:{node.lineno}")
 
 
 class Words(unittest.TestCase):
@@ -133,15 +178,32 @@ class Words(unittest.TestCase):
             if isinstance(node, ast.Call) and isinstance(node.func, ast.Attribute):
                 self.assertIn(node.func.attr, METHODS | own, where)
 
-    def test_sets_are_only_sorted_or_measured(self):
-        fine = [node.args[0] for _, node in nodes() if isinstance(node, ast.Call) and node.args
-                and isinstance(node.func, ast.Name) and node.func.id in ("sorted", "len")]
-        rows = [ast.dump(node, include_attributes=True) for node in fine]
-        for where, node in nodes():
-            named_set = (isinstance(node, ast.Call) and isinstance(node.func, ast.Name)
-                         and node.func.id == "set")
-            if named_set or isinstance(node, (ast.Set, ast.SetComp)):
-                self.assertIn(ast.dump(node, include_attributes=True), rows, where)
+    def test_sets_are_sorted_measured_or_asked(self):
+        for name, tree in trees():
+            for task in ast.walk(tree):
+                if isinstance(task, ast.FunctionDef):
+                    self.check_sets(name, task)
+
+    def check_sets(self, name, task):
+        """Each set of a function is sorted or measured at once, or stored and then asked or added to."""
+        fine, stored, asked = [], [], []
+        for node in ast.walk(task):
+            if isinstance(node, ast.Call) and isinstance(node.func, ast.Name):
+                fine += node.args[:1] if node.func.id in ("sorted", "len") else []
+            if isinstance(node, ast.Assign) and is_set(node.value):
+                fine.append(node.value)
+                stored += [target.id for target in node.targets]
+            if isinstance(node, ast.Compare) and isinstance(node.ops[0], (ast.In, ast.NotIn)):
+                asked.append(node.comparators[0])
+            if isinstance(node, ast.Expr) and isinstance(node.value, ast.Call):
+                if isinstance(node.value.func, ast.Attribute) and node.value.func.attr == "add":
+                    asked.append(node.value.func.value)
+        for node in ast.walk(task):
+            if is_set(node):
+                self.assertIn(node, fine, f"{name}.py:{node.lineno}")
+            if isinstance(node, ast.Name) and node.id in stored and isinstance(node.ctx, ast.Load):
+                self.assertIn(node, asked, f"{name}.py:{node.lineno}")
+        self.assertEqual(len(stored), len(set(stored)), f"{name}.py:{task.lineno}")
 
     def test_words_that_are_barred(self):
         for where, node in nodes():

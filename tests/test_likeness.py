@@ -63,6 +63,19 @@ def six_alike():
     return drawings
 
 
+def five_of_three():
+    """Drawings of six corners with three ends each, with the numbers of keepers and the turns."""
+    crossed = [(at, to) for at in (0, 1, 2) for to in (3, 4, 5)]
+    ring = [(0, 1), (1, 2), (2, 3), (3, 4), (4, 5), (0, 5)]
+    prism = [(0, 1), (0, 2), (1, 2), (3, 4), (3, 5), (4, 5), (0, 3), (1, 4), (2, 5)]
+    return [(of_three(rows), many, all_turns) for rows, many, all_turns in (
+        (crossed, 72, 72),
+        (ring + [(0, 3), (1, 4), (2, 5)], 72, 72),
+        ([(0, 1), (2, 3), (4, 5)] * 3, 48, 10368),
+        (prism, 12, 12),
+        (ring + [(0, 1), (2, 3), (4, 5)], 6, 48))]
+
+
 def plain_keepers(drawing):
     """The keepers, by going through all renamings."""
     here = (drawing.corners, drawing.joins)
@@ -301,6 +314,36 @@ class Turns(unittest.TestCase):
                 often.setdefault(told, [0, drawing])[0] += 1
             for many, drawing in often.values():
                 self.assertEqual(many * turns(drawing), plain_group(stock, corners))
+
+
+
+class SixOfThreeEnds(unittest.TestCase):
+    RENAMINGS = [(0, 1, 2, 3, 4, 5), (5, 4, 3, 2, 1, 0), (4, 2, 0, 5, 1, 3), (3, 0, 5, 1, 2, 4)]
+
+    def test_keepers_and_turns(self):
+        for one, many, all_turns in five_of_three():
+            for numbers in self.RENAMINGS:
+                drawing = renamed(one, numbers)
+                self.assertEqual(len(keepers(drawing)), many)
+                self.assertEqual(keepers(drawing), plain_keepers(drawing))
+                self.assertEqual(turns(drawing), all_turns)
+
+    def test_least(self):
+        for one, _, _ in five_of_three():
+            corners, joins = plain_least(one)
+            for numbers in self.RENAMINGS:
+                told = least(renamed(one, numbers))
+                self.assertEqual((told.corners, told.joins), (corners, joins))
+
+    def test_only_the_first_two_are_alike(self):
+        for at, (one, _, _) in enumerate(five_of_three()):
+            for to, (other, _, _) in enumerate(five_of_three()):
+                for numbers in self.RENAMINGS:
+                    goal = renamed(other, numbers)
+                    found = alike(one, goal)
+                    self.assertEqual(found is not None, at == to or at + to == 1)
+                    if found is not None:
+                        self.assertEqual(renamed(one, found), goal)
 
 
 if __name__ == "__main__":
