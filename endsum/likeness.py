@@ -71,17 +71,20 @@ def _least_order(drawing):
     web = Web(drawing)
     links = _links(drawing)
     orders = [()]
-    # All orders that are left have the same joins of the numbers below this one.
-    first = 0
+    # All orders that are left have the same joins, up to those of this number and sort.
+    first, sort = 0, None
     for kind in sorted(drawing.corners):
         fit = [at for at, corner in enumerate(drawing.corners) if corner == kind]
         orders = [(*order, at) for order in orders for at in fit if at not in order]
+        # Where such a join is not sure yet, it had best go to the corner that is numbered now.
+        near = [order for order in orders if (sort, order[-1]) in links[order[first]]]
+        orders = near if near else orders
         if len(orders) > 1:
             starts = [_start(links, order, first) for order in orders]
             low = min(starts)
-            orders = [order for order, start in zip(orders, starts) if start == low]
-            orders = _unlike(web, orders)
+            orders = _unlike(web, [order for order, start in zip(orders, starts) if start == low])
             first = low[-1] // ROWS
+            sort = low[-1] % ROWS - low[-1] % PLACES
     return orders[0]
 
 
