@@ -7,7 +7,7 @@ from endsum.errors import NoJoin, NoLeg, NoName, TooMany
 
 def parts(drawing):
     """The drawings of all that hangs together, by their least places."""
-    return [_part(drawing, places) for places in _hanging(_many_places(drawing), drawing.joins)]
+    return [_part(drawing, places) for places in hanging(_many_places(drawing), drawing.joins)]
 
 
 def _many_places(drawing):
@@ -15,7 +15,7 @@ def _many_places(drawing):
     return len(drawing.corners) + len(drawing.legs)
 
 
-def _hanging(many, joins):
+def hanging(many, joins):
     """The rising lists of the places below many that hang together by joins, by their least."""
     marks = list(range(many))
     for join in joins:
@@ -40,17 +40,17 @@ def _part(drawing, places):
 
 def is_whole(drawing):
     """Whether there is just one part."""
-    return len(_hanging(_many_places(drawing), drawing.joins)) == 1
+    return len(hanging(_many_places(drawing), drawing.joins)) == 1
 
 
 def cuts(drawing):
     """The sorted list of the inner joins without any one of which there are more parts."""
     many = _many_places(drawing)
-    fewest = len(_hanging(many, drawing.joins))
+    fewest = len(hanging(many, drawing.joins))
     found = []
     for at, join in enumerate(drawing.joins):
         left = drawing.joins[:at] + drawing.joins[at + 1:]
-        if _is_inner(drawing, join) and len(_hanging(many, left)) > fewest:
+        if _is_inner(drawing, join) and len(hanging(many, left)) > fewest:
             found.append(join)
     return found
 
@@ -61,6 +61,11 @@ def _is_inner(drawing, join):
     return join[2] < len(drawing.corners)
 
 
+def inner_joins(drawing):
+    """The inner joins in their order, equal ones as often as they stand there."""
+    return [join for join in drawing.joins if _is_inner(drawing, join)]
+
+
 def is_free(drawing):
     """Whether the drawing is whole, has a corner, and has no cuts."""
     return is_whole(drawing) and len(drawing.corners) > 0 and cuts(drawing) == []
@@ -69,8 +74,8 @@ def is_free(drawing):
 def pieces(drawing):
     """The rising lists of corners that hang together by inner joins that are no cuts, by their least."""
     parting = cuts(drawing)
-    joins = [join for join in drawing.joins if _is_inner(drawing, join) and join not in parting]
-    return _hanging(len(drawing.corners), joins)
+    joins = [join for join in inner_joins(drawing) if join not in parting]
+    return hanging(len(drawing.corners), joins)
 
 
 def cut(drawing, join, names):

@@ -133,6 +133,32 @@ def every_kind_of_stock():
     ]
 
 
+def all_drawings():
+    """Drawings of all kinds of stocks."""
+    return [drawing for stock, corners, legs in every_kind_of_stock()
+            for drawing in unlike_drawings(stock, corners, legs)[:40]]
+
+
+def plain_groups(places, joins):
+    """The sorted lists of places that joins lead to from one another, by their least."""
+    left, groups = list(places), []
+    while left:
+        group = [left[0]]
+        for place in group:
+            for one, _, other, _ in joins:
+                for here, there in ((one, other), (other, one)):
+                    if here == place and there not in group:
+                        group.append(there)
+        groups.append(sorted(group))
+        left = [place for place in left if place not in group]
+    return groups
+
+
+def inner(drawing):
+    """The inner joins, equal ones apart."""
+    return [join for join in drawing.joins if max(join[0], join[2]) < len(drawing.corners)]
+
+
 def told(value):
     """A fraction as it is to be told."""
     return (value.numerator, value.denominator)

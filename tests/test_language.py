@@ -20,6 +20,10 @@ INTERFACE = {
     "lists": ["drawings", "sum_all"],
     "parts": ["parts", "is_whole", "cuts", "is_free", "pieces", "cut", "join_legs"],
     "series": ["all_sums", "whole_sums", "free_sums"],
+    "values": ["Weights", "value"],
+    "trees": ["tree_count", "rings", "tree_sum"],
+    "texts": ["show_stock", "show_drawing", "read_stock", "read_drawing"],
+    "desk": ["Desk"],
 }
 LIBRARY = {
     "math": ["gcd", "lcm", "isqrt", "comb", "perm", "factorial"],

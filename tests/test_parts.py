@@ -7,16 +7,10 @@ from endsum.errors import EndError, NoJoin, NoLeg, NoName, TooMany
 from endsum.likeness import alike
 from endsum.parts import cut, cuts, is_free, is_whole, join_legs, parts, pieces
 from endsum.stocks import Stock
-from tests.samples import (contents, every_kind_of_stock, loose, mixed, odd_things, paired,
-                           unlike_drawings)
+from tests.samples import (all_drawings, contents, inner, loose, mixed, odd_things, paired,
+                           plain_groups, unlike_drawings)
 
 NAMES = ("one", "two")
-
-
-def all_drawings():
-    """Drawings of all kinds of stocks."""
-    return [drawing for stock, corners, legs in every_kind_of_stock()
-            for drawing in unlike_drawings(stock, corners, legs)[:40]]
 
 
 def of_three(pairs, *legs):
@@ -33,29 +27,9 @@ def dumbbell():
     return of_three([(0, 0), (0, 1), (1, 1)])
 
 
-def plain_groups(places, joins):
-    """The sorted lists of places that joins lead to from one another, by their least."""
-    left, groups = list(places), []
-    while left:
-        group = [left[0]]
-        for place in group:
-            for one, _, other, _ in joins:
-                for here, there in ((one, other), (other, one)):
-                    if here == place and there not in group:
-                        group.append(there)
-        groups.append(sorted(group))
-        left = [place for place in left if place not in group]
-    return groups
-
-
 def places_of(drawing):
     """All places of a drawing."""
     return range(len(drawing.corners) + len(drawing.legs))
-
-
-def inner(drawing):
-    """The inner joins, equal ones apart."""
-    return [join for join in drawing.joins if max(join[0], join[2]) < len(drawing.corners)]
 
 
 def plain_cuts(drawing):
