@@ -62,19 +62,21 @@ def _is_leg(leg, partners):
 
 def _are_joins(stock, corners, legs, joins):
     """Whether these are sorted joins in which each end stands just once."""
-    if not isinstance(joins, list) or not all([_is_join(stock, row) for row in joins]):
+    if not isinstance(joins, list) or not all([is_join(stock, row) for row in joins]):
         return False
     joined = [row[:2] for row in joins] + [row[2:] for row in joins]
     return joins == sorted(joins) and sorted(joined) == all_ends(stock, corners, legs)
 
 
-def _is_join(stock, row):
+def is_join(stock, row):
     """Whether these are two ends of partners, the lesser one first, wherever they are."""
     if not isinstance(row, tuple) or len(row) != 4:
         return False
     if not is_number(row[0]) or not is_number(row[2]):
         return False
-    # Only once the sorts are known to be texts can the ends be compared.
+    # Only texts can be compared with the sorts, and with one another.
+    if not isinstance(row[1], str) or not isinstance(row[3], str):
+        return False
     return (row[1], row[3]) in stock.sorts and row[:2] <= row[2:]
 
 

@@ -1,7 +1,7 @@
 """Parts of a drawing, the cuts that part it further, and cutting and joining it."""
 
-from endsum.checks import is_name, is_number, is_pair
-from endsum.drawings import MOST_LEGS, Drawing, moved
+from endsum.checks import is_name, is_pair
+from endsum.drawings import MOST_LEGS, Drawing, is_join, moved
 from endsum.errors import NoJoin, NoLeg, NoName, TooMany
 
 
@@ -100,11 +100,7 @@ def cut(drawing, join, names):
 
 def _has_inner(drawing, join):
     """Whether this is one of the inner joins."""
-    if not isinstance(join, tuple) or len(join) != 4:
-        return False
-    if not is_number(join[0]) or not is_number(join[2]):
-        return False
-    return join in drawing.joins and _is_inner(drawing, join)
+    return is_join(drawing.stock, join) and join in drawing.joins and _is_inner(drawing, join)
 
 
 def _are_new_names(drawing, names):
@@ -125,7 +121,7 @@ def _places_among(drawing, legs):
 def join_legs(drawing, one, other):
     """The drawing without two legs, so called, whose ends are joined with each other."""
     names = [leg[0] for leg in drawing.legs]
-    if one == other or one not in names or other not in names:
+    if not is_name(one) or not is_name(other) or one == other or one not in names or other not in names:
         raise NoLeg("the names of two unlike legs are wanted")
     many = len(drawing.corners)
     gone = [many + names.index(one), many + names.index(other)]

@@ -43,7 +43,9 @@ def _is_join(stock, colours, key):
         return False
     if not _is_colour(key[1], colours) or not _is_colour(key[3], colours):
         return False
-    # Only once the sorts are known to be texts can the ends be compared.
+    # Only texts can be compared with the sorts, and with one another.
+    if not isinstance(key[0], str) or not isinstance(key[2], str):
+        return False
     return (key[0], key[2]) in stock.sorts and key[:2] <= key[2:]
 
 
@@ -91,4 +93,5 @@ def _are_leg_colours(drawing, colours, legs):
         return False
     if not all([_is_colour(colour, colours) for colour in legs.values()]):
         return False
-    return sorted(legs) == sorted([leg[0] for leg in drawing.legs])
+    # A drawing's legs are sorted by their names.
+    return sorted(legs) == [leg[0] for leg in drawing.legs]
